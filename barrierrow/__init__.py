@@ -1,0 +1,1 @@
+"""Barrierrow: many that meet at numbered gates."""
