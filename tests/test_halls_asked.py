@@ -5,6 +5,7 @@ import unittest
 from barrierrow import halls
 from barrierrow.errors import HallError, NoGate, NoWalker
 from barrierrow.halls import Hall, ahead, begun, boxes, came, passed
+from barrierrow.weaving import rested, woven
 
 NOBODY = [-1, -2, -3, -4, -100, 3, 4, 12, 13, 10 ** 30]
 NOWHERE = [-1, -2, -3, -100, 2, 3, 12, 13, 10 ** 30]
@@ -97,43 +98,50 @@ class Refused(unittest.TestCase):
 
 
 class OnTheWay(unittest.TestCase):
-    """Halls in the form that steps will give them."""
+    """Walkers between two steps; what the steps themselves do is tested in the files on steps."""
 
-    def hall(self, *stands):
-        gates = (("count", (0, 1)), ("row", (1, 0)))
-        rows = ((0, 0, 1, 0), (1, 0, 1))
-        return Hall(gates, rows, stands, ((1, 1), ((1, 0), (0, 1))))
+    def hall(self, *weave):
+        begin = begun([("count", [0, 1]), ("row", [1, 0])], [[0, 0, 1, 0], [0, 0, 1, 0]])
+        return woven(begin, list(weave))[0]
 
     def told(self, hall, walker):
         return [ahead(hall, walker), [(passed(hall, walker, gate), came(hall, walker, gate)) for gate in range(2)]]
 
-    def test_behind_some_gates_and_ahead_of_the_next_one(self):
-        hall = self.hall((2, "come", 0), (1, "come", 0))
-        self.assertEqual(self.told(hall, 0), [(1, "come"), [(2, 2), (0, 0)]])
-        self.assertEqual(self.told(hall, 1), [(0, "come"), [(0, 0), (1, 1)]])
-
     def test_within_a_gate_that_counts(self):
-        for word in ["fill", "turn", "look", "pass"]:
-            with self.subTest(word=word):
-                hall = self.hall((1, word, 0), (1, word, 0))
-                self.assertEqual(self.told(hall, 0), [(0, word), [(1, 2), (0, 0)]])
-                self.assertEqual(self.told(hall, 1), [(0, word), [(0, 1), (1, 1)]])
+        self.assertEqual(self.told(self.hall(0), 0), [(0, "look"), [(0, 1), (0, 0)]])
+        self.assertEqual(self.told(self.hall(0, 0, 0), 0), [(0, "look"), [(0, 1), (0, 0)]])
+        self.assertEqual(self.told(self.hall(0), 1), [(0, "come"), [(0, 0), (0, 0)]])
+        self.assertEqual(self.told(self.hall(0, 1), 1), [(0, "fill"), [(0, 1), (0, 0)]])
+        self.assertEqual(self.told(self.hall(0, 1, 1), 1), [(0, "turn"), [(0, 1), (0, 0)]])
+        self.assertEqual(self.told(self.hall(0, 1, 1, 1), 1), [(0, "pass"), [(0, 1), (0, 0)]])
+        self.assertEqual(self.told(self.hall(0, 1, 1, 1, 0), 0), [(0, "pass"), [(0, 1), (0, 0)]])
+
+    def test_ahead_of_the_same_gate_again_and_within_it(self):
+        self.assertEqual(self.told(self.hall(0, 1, 1, 1, 1), 1), [(0, "come"), [(1, 1), (0, 0)]])
+        self.assertEqual(self.told(self.hall(0, 1, 1, 1, 1, 1), 1), [(0, "look"), [(1, 2), (0, 0)]])
 
     def test_within_a_gate_in_rows(self):
-        for word in ["tell", "hear", "pass"]:
-            with self.subTest(word=word):
-                hall = self.hall((2, word, 0), (2, word, 0))
-                self.assertEqual(self.told(hall, 0), [(1, word), [(2, 2), (0, 1)]])
-                self.assertEqual(self.told(hall, 1), [(1, word), [(1, 1), (1, 2)]])
+        hall = self.hall(0, 1, 1, 1, 1, 0, 0, 0, 1, 1, 1, 1, 0, 0)
+        self.assertEqual(self.told(hall, 0), [(1, "come"), [(2, 2), (0, 0)]])
+        due = [("tell", (0, 1)), ("hear", (0, 1)), ("hear", (0, 1))]
+        for word, counts in due:
+            hall = woven(hall, [0])[0]
+            self.assertEqual(self.told(hall, 0), [(1, word), [(2, 2), counts]])
+        hall = woven(hall, [1, 1, 0])[0]
+        self.assertEqual(self.told(hall, 0), [(1, "pass"), [(2, 2), (0, 1)]])
+        self.assertEqual(self.told(hall, 1), [(1, "hear"), [(2, 2), (0, 1)]])
+        self.assertEqual(self.told(woven(hall, [0])[0], 0), [(0, "come"), [(2, 2), (1, 1)]])
+        self.assertEqual(boxes(hall, 1), [[0, 1], [0, 1]])
 
     def test_ended(self):
-        hall = self.hall((4, "come", 0), (3, "come", 0))
-        self.assertEqual(self.told(hall, 0), [(None, "end"), [(3, 3), (1, 1)]])
-        self.assertEqual(self.told(hall, 1), [(None, "end"), [(1, 1), (2, 2)]])
+        hall = rested(self.hall())[0]
+        for walker in [0, 1]:
+            self.assertEqual(self.told(hall, walker), [(None, "end"), [(3, 3), (1, 1)]])
 
-    def test_boxes_that_hold_something(self):
-        hall = self.hall((1, "look", 0), (1, "come", 0))
-        self.assertEqual([boxes(hall, 0), boxes(hall, 1)], [[1, 1], [[1, 0], [0, 1]]])
+    def test_no_member(self):
+        hall = begun([("count", [0]), ("row", [1])], [[0, 0], [1]])
+        for hall in [hall, woven(hall, [0, 1])[0], rested(hall)[0]]:
+            self.assertEqual([passed(hall, 0, 1), came(hall, 0, 1), passed(hall, 1, 0), came(hall, 1, 0)], [0] * 4)
 
 
 class Interface(unittest.TestCase):

@@ -5,7 +5,8 @@ import unittest
 
 from barrierrow import errors
 from barrierrow.errors import HallError, NoGate, NoHall, NoRow, NoWalker, Stranger
-from barrierrow.halls import ahead, begun, boxes, came, passed
+from barrierrow.halls import ahead, begun, boxes
+from helper import everything
 
 KINDS = [NoHall, NoGate, NoRow, Stranger, NoWalker, errors.NoRest]
 EVERYBODY = list(range(12))
@@ -158,15 +159,6 @@ class Begun(unittest.TestCase):
     def test_members_in_any_order(self):
         hall = begun([("row", [2, 0, 1])], [[0], [0], []])
         self.assertEqual(boxes(hall, 0), [[0] * 4] * 3)
-
-
-def everything(hall, walkers, gates):
-    return (
-        [ahead(hall, walker) for walker in range(walkers)],
-        [[passed(hall, walker, gate) for gate in range(gates)] for walker in range(walkers)],
-        [[came(hall, walker, gate) for gate in range(gates)] for walker in range(walkers)],
-        [boxes(hall, gate) for gate in range(gates)],
-    )
 
 
 class Untouched(unittest.TestCase):
